@@ -576,6 +576,22 @@ func spoil(r []int) {
 	}
 }
 
+// standAlone fails for calls whose results share memory with those of later calls, or with the list that is given to them.
+func standAlone(t *testing.T, given []int, calls map[string]func() ([]int, bool)) {
+	before := slices.Clone(given)
+	for name, call := range calls {
+		first, ok := call()
+		kept := slices.Clone(first)
+		spoil(first)
+		if again, fine := call(); ok != fine || !slices.Equal(again, kept) {
+			t.Error(name, "is", again, "and was", kept)
+		}
+		if !slices.Equal(given, before) {
+			t.Fatal(name, "shares its argument:", given)
+		}
+	}
+}
+
 func TestResultsOfCellsStandAlone(t *testing.T) {
 	given := []int{8, 8, 8}
 	calls := map[string]func() ([]int, bool){
@@ -589,17 +605,7 @@ func TestResultsOfCellsStandAlone(t *testing.T) {
 		"ParseRow {}":  func() ([]int, bool) { return impl.ParseRow("") },
 		"ParseRow x":   func() ([]int, bool) { return impl.ParseRow("x") },
 	}
-	for name, call := range calls {
-		first, ok := call()
-		kept := slices.Clone(first)
-		spoil(first)
-		if again, fine := call(); ok != fine || !slices.Equal(again, kept) {
-			t.Error(name, "is", again, "and was", kept)
-		}
-		if !slices.Equal(given, []int{8, 8, 8}) {
-			t.Fatal(name, "shares its argument:", given)
-		}
-	}
+	standAlone(t, given, calls)
 }
 
 // answersOfCells returns what all functions of the chapter return for numbers, rows and texts of all sorts.

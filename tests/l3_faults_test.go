@@ -662,17 +662,7 @@ func TestResultsOfFaultsStandAlone(t *testing.T) {
 		"FirstNumber":    func() ([]int, bool) { return impl.FirstNumber(faults, row) },
 		"FirstNumber no": func() ([]int, bool) { return impl.FirstNumber(faults, []int{63, 64}) },
 	}
-	for name, call := range calls {
-		first, ok := call()
-		kept := slices.Clone(first)
-		spoil(first)
-		if again, fine := call(); ok != fine || !slices.Equal(again, kept) {
-			t.Error(name, "is", again, "and was", kept)
-		}
-		if !slices.Equal(row, []int{63, 63}) {
-			t.Fatal(name, "shares its argument:", row)
-		}
-	}
+	standAlone(t, row, calls)
 	first, _ := impl.FaultsOf([]int{8, 1}, []int{63, 6})
 	kept := slices.Clone(first)
 	clear(first[:cap(first)])
